@@ -1,0 +1,1 @@
+"""Two mine cages on one drum, moved only on bells that were repeated."""
