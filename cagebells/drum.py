@@ -5,6 +5,7 @@ from cagebells.errors import BadDepths
 FEWEST_LEVELS = 2
 MOST_LEVELS = 6
 GREATEST_DEPTH = 500
+CAGES = (0, 1)
 
 
 def check_depths(depths):

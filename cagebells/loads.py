@@ -1,7 +1,7 @@
 """The loads: where each of them waits, or in which cage it is."""
 
-from cagebells.errors import BadLoads, CageEmpty, CageTaken, NotThere, UnknownLevel, UnknownLoad
-from cagebells.known import is_known
+from cagebells.errors import BadLoads, CageEmpty, CageTaken, NotThere
+from cagebells.known import check_level, check_load, is_known
 
 KINDS = ("men", "coal")
 CAGE_SPOTS = (10, 11)
@@ -23,8 +23,7 @@ class Yard:
         self.many = many
 
     def into(self, number, cage):
-        if not is_known(number, len(self.where)):
-            raise UnknownLoad("there is no load of that number")
+        check_load(number, len(self.where))
         if self.where[number] in CAGE_SPOTS:
             raise NotThere("the load is in a cage already")
         if self.in_cage(cage) is not None:
@@ -32,7 +31,7 @@ class Yard:
         self.where[number] = CAGE_SPOTS[cage]
 
     def out(self, cage, level):
-        self.refuse_unknown_level(level)
+        check_level(level, self.many)
         number = self.in_cage(cage)
         if number is None:
             raise CageEmpty("the cage holds no load")
@@ -49,7 +48,7 @@ class Yard:
 
     def at_level(self, level):
         # Asked first, else the number of a cage's spot would be taken for a level.
-        self.refuse_unknown_level(level)
+        check_level(level, self.many)
         return [number for number, spot in enumerate(self.where) if spot == level]
 
     def men_aboard(self):
@@ -58,6 +57,8 @@ class Yard:
                 return True
         return False
 
-    def refuse_unknown_level(self, level):
-        if not is_known(level, self.many):
-            raise UnknownLevel("there is no level of that number")
+    def twin(self):
+        other = Yard([], self.many)
+        other.kinds = list(self.kinds)
+        other.where = list(self.where)
+        return other

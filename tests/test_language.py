@@ -36,6 +36,16 @@ WORDS = re.compile(
 UNUSED = {"register", "mro", "elements", "open", "input", "version_info", "with_traceback", "add_note", "format",
           "format_map"}
 
+KEYWORDS = {"sorted": ("key", "reverse"), "min": ("key", "default"), "max": ("key", "default"), "sum": ("start",),
+            "enumerate": ("start",), "zip": ("strict",)}
+WALKED_NAMES = ("zip", "enumerate", "reversed", "range")
+WALKED_METHODS = ("items", "keys", "values")
+WALKERS = ("list", "tuple", "dict", "sorted", "sum", "any", "all", "enumerate", "zip", "min", "max")
+
+PYTHONS_OWN = set().union(*(dir(kind) for kind in (str, int, bool, list, tuple, dict, set, frozenset, bytes)))
+FREE_METHODS = OWN_METHODS | DUNDERS | {"add", "discard"}
+FREE_VALUES = set("count index title find get join lower upper split strip copy add".split())
+
 
 def names_in(tree):
     for node in ast.walk(tree):
@@ -119,9 +129,43 @@ def faults_of_names(tree, attributes):
             yield "L25 " + name, node.lineno
 
 
+def faults_of_bound_names(tree):
+    taken = {part.name for part in tree.body if isinstance(part, ast.ClassDef)}
+    for part in tree.body:
+        if isinstance(part, ast.ImportFrom):
+            taken.update(name.asname or name.name for name in part.names)
+    for node in ast.walk(tree):
+        name = node.arg if isinstance(node, ast.arg) else None
+        if isinstance(node, ast.Name) and isinstance(node.ctx, ast.Store):
+            name = node.id
+        if name in taken:
+            yield "L15 " + name, node.lineno
+
+
+def faults_of_calls(tree):
+    above = {id(part): node for node in ast.walk(tree) for part in ast.iter_child_nodes(node)}
+    for node in ast.walk(tree):
+        if not isinstance(node, ast.Call):
+            continue
+        name = getattr(node.func, "id", getattr(node.func, "attr", None))
+        theirs = name in OWN_NAMES | OWN_METHODS
+        if theirs and any(part.arg not in KEYWORDS.get(name, ()) for part in node.keywords):
+            yield "L22 " + name, node.lineno
+        walked = WALKED_NAMES if isinstance(node.func, ast.Name) else WALKED_METHODS
+        holder = above[id(node)]
+        if name in walked and getattr(holder, "iter", None) is not node:
+            within = isinstance(holder, ast.Call) and holder.args[0] is node
+            if not within or getattr(holder.func, "id", None) not in WALKERS:
+                yield "L23 " + name, node.lineno
+        if isinstance(node.func, ast.Name) and name == "set" and isinstance(holder, (ast.Assign, ast.For, ast.Return)):
+            yield "L24", node.lineno
+
+
 def faults(text, attributes):
     found = list(faults_of_text(text))
     tree = ast.parse(text)
+    found.extend(faults_of_bound_names(tree))
+    found.extend(faults_of_calls(tree))
     docstrings = {id(tree.body[0])} if ast.get_docstring(tree) is not None else set()
     for node in ast.walk(tree):
         for fault in faults_of_node(node, docstrings):
@@ -155,6 +199,25 @@ class LanguageTest(unittest.TestCase):
                 if isinstance(node, ast.Attribute) and isinstance(node.ctx, ast.Store):
                     values.add(node.attr)
         self.assertEqual(methods & values, set())
+        self.assertEqual(methods & PYTHONS_OWN - FREE_METHODS, set())
+        self.assertEqual(values & PYTHONS_OWN - FREE_VALUES, set())
+
+    def test_no_two_files_draw_from_one_another(self):
+        trees = {path.stem: ast.parse(path.read_text("utf-8")) for path in sorted(PACKAGE.glob("*.py"))}
+        drawn = {}
+        for name, tree in trees.items():
+            rows = [part for part in tree.body if isinstance(part, ast.ImportFrom)]
+            drawn[name] = {row.module.split(".")[-1] for row in rows}
+            for row in rows:
+                defined = {getattr(part, "name", None) for part in trees[row.module.split(".")[-1]].body}
+                defined |= {part.targets[0].id for part in trees[row.module.split(".")[-1]].body
+                            if isinstance(part, ast.Assign)}
+                self.assertLessEqual({part.name for part in row.names}, defined, name)
+        while drawn:
+            free = [name for name, others in drawn.items() if not others & set(drawn)]
+            self.assertTrue(free, drawn)
+            for name in free:
+                del drawn[name]
 
     def test_a_breach_is_seen(self):
         breaches = (
@@ -165,6 +228,9 @@ class LanguageTest(unittest.TestCase):
             "def f():\n" + "    pass\n" * 40, "x = '" + "a" * 120 + "'", "class A:\n    x = 1",
             "def f(a, b):\n    return a is b", "def f(n):\n    (n)", "x = [a for b in () for a in b]",
             "def f(xs):\n    for x in xs:\n        pass\n    else:\n        pass", "x = 1\t",
+            "class A:\n    pass\n\n\ndef f(A):\n    pass", "def f(xs):\n    return zip(xs, xs)",
+            "from cagebells.drum import level_at\n\n\ndef f():\n    level_at = 1", "def f(xs):\n    return xs.index(start=1)",
+            "def f(xs):\n    return list(reversed(range(3)))", "def f(xs):\n    ys = set(xs)",
         )
         for text in breaches:
             with self.subTest(text=text):
